@@ -1,0 +1,1 @@
+"""Handeddown: the fewest settings in a tree of folders that hands them down."""

@@ -1,0 +1,1 @@
+"""The tests of handeddown, one file for each file of the package."""
