@@ -25,11 +25,7 @@ def is_lean(tree, plan):
 
 def tidied(tree, plan):
     """The lean PLAN by which all folders have the same values."""
-    given = given_by(tree, plan)
-    return tuple(sorted([
-        (name, given[name]) for name, parent, _ in tree
-        if parent is None or given[name] != given[parent]
-    ]))
+    return lean_plan(tree, given_by(tree, plan))
 
 
 def given_by(tree, plan):
@@ -40,3 +36,11 @@ def given_by(tree, plan):
     for name, parent, _ in tree:
         given[name] = written[name] if name in written else given[parent]
     return given
+
+
+def lean_plan(tree, given):
+    """The lean PLAN by which the folders have the values of this dict, tied ones one value."""
+    return tuple(sorted([
+        (name, given[name]) for name, parent, _ in tree
+        if parent is None or given[name] != given[parent]
+    ]))

@@ -6,6 +6,12 @@ TREE = (("r", None, False), ("x", "r", False), ("y", "r", False), ("i", "x", Fal
         ("k", "y", False), ("l", "y", False))
 WANTS = (("i", "a"), ("j", "b"), ("k", "b"), ("l", "c"))
 PLAN = (("i", "a"), ("l", "c"), ("r", "b"), ("x", "b"))
+STAR = (("r", None, False), ("i", "r", False), ("j", "r", False), ("k", "r", False))
+THREE = (("i", "a"), ("j", "b"), ("k", "c"))
+ROOT = (("r", None, False),)
+# a below r, and below it a locked b, a locked c, and d; e is locked and stands right below r.
+LOCKED = (("r", None, False), ("a", "r", False), ("b", "a", True), ("c", "b", True), ("d", "c", False),
+          ("e", "r", True))
 
 # Row order, alphabetical order and order by length are three different ones.
 NAMES = ("m", "b", "aa", "z", "ab", "a")
@@ -89,3 +95,42 @@ def mixed(value, depth=0):
         items = [mixed(item, depth + 1) for item in value]
         return tuple(items) if depth % 2 == 0 else items
     return value
+
+
+def drawn_tree(chance, many, lock=0.0, near=None):
+    """A tree of so many folders; lock tells how often one is locked, near how far back its parent's row stands."""
+    rows = [("aa", None, False)]
+    for k in range(1, many):
+        first = 0 if near is None else max(0, k - near)
+        rows.append((letters_name(k), rows[chance.randrange(first, k)][0], chance.random() < lock))
+    names = [row[0] for row in rows]
+    chance.shuffle(names)
+    called = dict(zip([row[0] for row in rows], names))
+    return tuple((called[name], called.get(parent), is_locked) for name, parent, is_locked in rows)
+
+
+def leaves(tree):
+    """The sorted names of the folders below which none stands."""
+    parents = {row[1] for row in tree}
+    return sorted(row[0] for row in tree if row[0] not in parents)
+
+
+def drawn_wants(chance, tree, values, inner=0.0):
+    """Wants of all leaves and of some inner folders, of which no two tied ones are unlike."""
+    heads = {}
+    wished = {}
+    ends = leaves(tree)
+    wants = []
+    for name, parent, is_locked in tree:
+        heads[name] = heads[parent] if is_locked else name
+        value = wished.setdefault(heads[name], chance.choice(values))
+        if name in ends or chance.random() < inner:
+            wants.append((name, value))
+    return tuple(sorted(wants))
+
+
+def drawn_plan(chance, tree):
+    """A plan with a setting at about half of the folders that are not locked."""
+    free = [name for name, _, is_locked in tree if not is_locked]
+    return tuple(sorted(
+        (name, chance.choice("abc")) for name in free if name == tree[0][0] or chance.random() < 0.5))

@@ -5,13 +5,8 @@ import unittest
 from handeddown.data import is_plan
 from handeddown.plans import is_lean, serves, tidied, value_of, values_of
 from tests.samples import (
-    PLAN, TREE, WANTS, all_wants, as_lists, can_spare, chain, letters_name, mixed, plans, star, trees, value_above,
-    values_above)
-
-ROOT = (("r", None, False),)
-# a below r, and below it a locked b, a locked c, and d; e is locked and stands right below r.
-LOCKED = (("r", None, False), ("a", "r", False), ("b", "a", True), ("c", "b", True), ("d", "c", False),
-          ("e", "r", True))
+    LOCKED, PLAN, ROOT, TREE, WANTS, all_wants, as_lists, can_spare, chain, letters_name, mixed, plans, star, trees,
+    value_above, values_above)
 
 
 class Checking(unittest.TestCase):
