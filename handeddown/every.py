@@ -70,7 +70,7 @@ def pieces(tree, one, other):
         if first[name] != second[name]:
             tops[name] = tops.get(parent, name)
     return sorted([
-        tuple(sorted([name for name in tops if tops[name] == top]))
+        tuple(sorted([part for part in tops if tops[part] == top]))
         for top in tops if tops[top] == top
     ])
 
