@@ -9,7 +9,7 @@ def is_tree(thing):
         return False
     ahead = {}
     for row in thing:
-        if not _can_follow(ahead, row):
+        if not can_follow(ahead, row):
             return False
         ahead[row[0]] = True
     return True
@@ -17,14 +17,13 @@ def is_tree(thing):
 
 def are_wants(tree, thing):
     """Whether thing is WANTS of this TREE."""
-    return _are_pairs([row[0] for row in tree], thing)
+    return are_pairs(thing) and _are_all_of([row[0] for row in tree], thing)
 
 
 def is_plan(tree, thing):
     """Whether thing is a PLAN of this TREE."""
-    root = tree[0][0]
     free = [row[0] for row in tree if not row[2]]
-    return _are_pairs(free, thing) and root in [pair[0] for pair in thing]
+    return are_pairs(thing) and _are_all_of(free, thing) and tree[0][0] in [pair[0] for pair in thing]
 
 
 def is_name(thing):
@@ -35,8 +34,8 @@ def is_name(thing):
     return all(["a" <= letter <= "z" for letter in thing])
 
 
-def _can_follow(ahead, row):
-    """Whether row can stand in a TREE behind the rows with the names ahead, a dict."""
+def can_follow(ahead, row):
+    """Whether row, any value, can stand in a TREE behind the rows with the names ahead, a dict."""
     if not isinstance(row, tuple) or len(row) != 3:
         return False
     name, parent, is_locked = row
@@ -48,17 +47,30 @@ def _can_follow(ahead, row):
     return (is_locked is True or is_locked is False) and is_name(parent) and parent in ahead
 
 
-def _are_pairs(folders, thing):
-    """Whether thing is an ascending tuple of pairs of different ones of these folders with VALUEs."""
+def are_pairs(thing):
+    """Whether thing is an ascending tuple of pairs of NAMEs of which the first ones are different."""
     if not isinstance(thing, tuple):
         return False
     last = ""
     for pair in thing:
-        if not isinstance(pair, tuple) or len(pair) != 2:
+        if not isinstance(pair, tuple) or len(pair) != 2 or not all([is_name(part) for part in pair]):
             return False
-        folder, value = pair
-        # Different folders decide how pairs compare, so the folders ascend, from one above "".
-        if folder not in folders or folder <= last or not is_name(value):
+        # Different first NAMEs decide how pairs compare, so these ascend, from one above "".
+        if pair[0] <= last:
             return False
-        last = folder
+        last = pair[0]
     return True
+
+
+def branch_of(tree, folder):
+    """A new dict of the folder and of all that stand below it, in the order of their rows."""
+    branch = {folder: True}
+    for name, parent, _ in tree:
+        if parent in branch:
+            branch[name] = True
+    return branch
+
+
+def _are_all_of(folders, pairs):
+    """Whether the pairs are of these folders alone."""
+    return all([pair[0] in folders for pair in pairs])

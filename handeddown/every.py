@@ -1,6 +1,6 @@
 """All PLANs that serve with as few settings as can be, and how one of them becomes another one."""
 
-from handeddown.data import is_plan
+from handeddown.data import branch_of, is_plan
 from handeddown.errors import Clashing, Locked, NoWants
 from handeddown.plans import given_by, lean_plan, serves
 from handeddown.routes import clash, fewest
@@ -134,10 +134,7 @@ def _fewest_apart(tree, wants, folder):
     What is wanted above has no part in what is at this folder and below it then. (Folders without wants at or below
     them cost nothing, and neither do those above that want nothing: so both may stay parts of the whole TREE.)
     """
-    branch = {folder: True}
-    for name, parent, _ in tree:
-        if parent in branch:
-            branch[name] = True
+    branch = branch_of(tree, folder)
     below = [want for want in wants if want[0] in branch]
     others = [want for want in wants if want[0] not in branch]
     return fewest(tree, below) + fewest(tree, others)

@@ -118,3 +118,53 @@ def most_routes(tree, wants):
         return best
 
     return most(every)
+
+
+def counter(tree, values):
+    """A function that tells of any wants the fewest settings, by all ways to give these values to the folders."""
+    ways = [(given, settings_of(tree, given)) for given in givings(tree, values)]
+    known = {}
+
+    def few(wants):
+        wants = tuple(wants)
+        if wants not in known:
+            known[wants] = min(
+                (many for given, many in ways if all(given[folder] == value for folder, value in wants)),
+                default=None)
+        return known[wants]
+
+    return few
+
+
+def least_core(wants, few):
+    """Of all sets of the wants that want as many settings as all: the smallest one, and the least of such."""
+    found = []
+    for size in range(len(wants) + 1):
+        for some in combinations(wants, size):
+            if few(some) == few(wants):
+                found.append((size, tuple(sorted(some))))
+    return min(found)[1]
+
+
+def stands_in(tree, folder, top):
+    """Whether the folder is this one at the top or stands below it."""
+    parents = {name: parent for name, parent, _ in tree}
+    while folder is not None and folder != top:
+        folder = parents[folder]
+    return folder == top
+
+
+def moved_rows(tree, folder, parent):
+    """The tree with the folder below this parent, which is not below it."""
+    staying, going = [], []
+    for name, above, is_locked in tree:
+        if stands_in(tree, name, folder):
+            going.append((name, parent if name == folder else above, is_locked))
+        else:
+            staying.append((name, above, is_locked))
+    return tuple(staying) + tuple(going)
+
+
+def parents_for(tree, folder):
+    """The sorted folders below which this one can stand."""
+    return sorted(row[0] for row in tree if not stands_in(tree, row[0], folder))

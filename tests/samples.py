@@ -16,6 +16,14 @@ LOCKED = (("r", None, False), ("a", "r", False), ("b", "a", True), ("c", "b", Tr
 # Row order, alphabetical order and order by length are three different ones.
 NAMES = ("m", "b", "aa", "z", "ab", "a")
 
+# The letters behind each other end just ahead of "`" and "{"; the rest are letters, or none, elsewhere.
+NO_NAMES = (
+    "", "abcdefghi", "abcdefghijklmnopqrstuvwxyz", "A", "aB", "Ab", "ABC", "a1", "1", "0a", "a b", " ", " a", "a ",
+    "a\n", "\na", "a\t", "a-b", "a_b", "_", "a.b", "a=b", "-", "`", "{", "a`", "{a", "@", "[", "\u00e4", "\u00df",
+    "\u00aa", "\uff41", "\u0430", "a\u0301", "\x00", "a\x00", "\ud800",
+    None, True, False, 0, 1, -5, 10 ** 30, (), [], ("a",), ["a"], (("a",),), [["a", 1]],
+)
+
 
 def letters_name(number):
     """A NAME for each number below 26 * 26."""

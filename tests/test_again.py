@@ -7,10 +7,15 @@ import unittest
 
 CALLS = """
 import random
+from handeddown.desk import answers
 from handeddown.edits import edited, edits, fewest_edits, lean_edited, lean_edits
 from handeddown.every import can_be, exchanged, how_many, may_write, must_write, pieces, with_value
+from handeddown.places import moved, places
 from handeddown.plans import tidied, values_of
 from handeddown.routes import clash, fewest, fewest_plan, routes
+from handeddown.texts import pairs_in, pairs_text, tree_in, tree_text
+from handeddown.wants import core, costs, spared
+from tests.lines import drawn_requests, text_of
 from tests.samples import drawn_plan, drawn_tree, drawn_wants
 
 chance = random.Random(51)
@@ -26,6 +31,11 @@ for k in range(40):
     print(values_of(tree, plan), tidied(tree, plan))
     for piece in pieces(tree, plan, other):
         print(piece, exchanged(tree, plan, other, list(piece)))
+    folder = min(row[0] for row in tree[1:])
+    print(spared(tree, wants), core(tree, wants[:9]))
+    print([costs(tree, wants, row[0]) for row in tree if row[0] not in dict(wants)])
+    print(moved(tree, folder, tree[0][0]), places(tree, (), folder), tree_in(tree_text(tree)))
+    print(pairs_in(pairs_text(plan)), answers(text_of(tree, drawn_requests(chance, tree, 20))))
 """
 
 

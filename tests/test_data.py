@@ -4,17 +4,9 @@ import copy
 import unittest
 
 from handeddown.data import are_wants, is_plan, is_tree
-from tests.samples import PLAN, TREE, WANTS, all_wants, as_lists, chain, mixed, plans, star, trees
+from tests.samples import NO_NAMES, PLAN, TREE, WANTS, all_wants, as_lists, chain, mixed, plans, star, trees
 
 ROOT = ("r", None, False)
-
-# The letters behind each other end just ahead of "`" and "{"; the rest are letters, or none, elsewhere.
-NO_NAMES = (
-    "", "abcdefghi", "abcdefghijklmnopqrstuvwxyz", "A", "aB", "Ab", "ABC", "a1", "1", "0a", "a b", " ", " a", "a ",
-    "a\n", "\na", "a\t", "a-b", "a_b", "_", "a.b", "a=b", "-", "`", "{", "a`", "{a", "@", "[", "\u00e4", "\u00df",
-    "\u00aa", "\uff41", "\u0430", "a\u0301", "\x00", "a\x00", "\ud800",
-    None, True, False, 0, 1, -5, 10 ** 30, (), [], ("a",), ["a"], (("a",),), [["a", 1]],
-)
 
 # A folder's name is wanted here and there, so these are told apart from TREEs, WANTS and PLANs by their kind.
 OTHER_KINDS = (

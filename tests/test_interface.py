@@ -21,6 +21,10 @@ FUNCTIONS = {
     "edits": {
         "edits": "one other", "fewest_edits": "tree wants plan", "edited": "tree wants plan",
         "lean_edits": "tree wants plan", "lean_edited": "tree wants plan"},
+    "wants": {"spared": "tree wants", "core": "tree wants", "costs": "tree wants folder"},
+    "places": {"moved": "tree folder parent", "places": "tree wants folder"},
+    "texts": {"tree_text": "tree", "tree_in": "text", "pairs_text": "pairs", "pairs_in": "text"},
+    "desk": {"answers": "text"},
 }
 
 
@@ -42,7 +46,7 @@ class Interface(unittest.TestCase):
         path = os.path.join(os.path.dirname(os.path.dirname(os.path.abspath(__file__))), "README.md")
         told = doctest.testfile(path, module_relative=False, encoding="utf-8")
         self.assertEqual(told.failed, 0)
-        self.assertLess(8, told.attempted)
+        self.assertLess(30, told.attempted)
 
 
 if __name__ == "__main__":
